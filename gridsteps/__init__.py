@@ -1,0 +1,1 @@
+"""Short steps in a grid: the calls are in gridsteps.desk."""

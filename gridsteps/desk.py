@@ -1,0 +1,49 @@
+"""The calls: what each of them refuses, and what it answers."""
+
+from gridsteps.matrix import determinant, lies_within, split_rows
+
+LARGEST_SIZE = 5
+LARGEST_NUMBER = 1000
+WRONG_SIZE = -2
+WRONG_ROWS = -3
+
+
+def refusal(n, lists):
+    """The number that refuses the size n or a number in the lists; else 0."""
+    if n < 1 or n > LARGEST_SIZE:
+        return WRONG_SIZE
+    for numbers in lists:
+        for number in numbers:
+            if abs(number) > LARGEST_NUMBER:
+                return WRONG_ROWS
+    return 0
+
+
+def grid_refusal(n, grids):
+    """As refusal, but rows whose determinant is 0 are refused, too."""
+    refused = refusal(n, grids)
+    if refused != 0:
+        return refused
+    for numbers in grids:
+        if determinant(split_rows(n, numbers)) == 0:
+            return WRONG_ROWS
+    return 0
+
+
+def det(n, b):
+    """0 and the determinant of the rows b, or a refusal."""
+    refused = refusal(n, [b])
+    if refused != 0:
+        return [refused]
+    return [0, determinant(split_rows(n, b))]
+
+
+def same(n, a, b):
+    """1 if the rows a and b have the same grid, 0 if not, or a refusal."""
+    refused = grid_refusal(n, [a, b])
+    if refused != 0:
+        return [refused]
+    first = split_rows(n, a)
+    second = split_rows(n, b)
+    alike = lies_within(first, second) and lies_within(second, first)
+    return [1 if alike else 0]
