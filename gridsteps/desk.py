@@ -1,6 +1,8 @@
 """The calls: what each of them refuses, and what it answers."""
 
-from gridsteps.matrix import determinant, lies_within, split_rows
+from gridsteps.matrix import (
+    determinant, free_squares, lies_within, short_points, split_rows, square, upright,
+)
 
 LARGEST_SIZE = 5
 LARGEST_NUMBER = 1000
@@ -47,3 +49,20 @@ def same(n, a, b):
     second = split_rows(n, b)
     alike = lies_within(first, second) and lies_within(second, first)
     return [1 if alike else 0]
+
+
+def short(n, b):
+    """The least square of a point but 0, and the first such point, or a refusal."""
+    refused = grid_refusal(n, [b])
+    if refused != 0:
+        return [refused]
+    points = [upright(point) for point in short_points(split_rows(n, b))]
+    return min([[square(point)] + point for point in points])
+
+
+def minima(n, b):
+    """0 and the n minima of the grid, or a refusal."""
+    refused = grid_refusal(n, [b])
+    if refused != 0:
+        return [refused]
+    return [0] + free_squares(short_points(split_rows(n, b)))

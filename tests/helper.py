@@ -1,11 +1,29 @@
 """What several tests need: other ways to the same numbers, and guarded lists."""
 
-from itertools import permutations
+from fractions import Fraction
+from itertools import permutations, product
+from math import isqrt
 
 LOWEST = -2147483648
 HIGHEST = 2147483647
 WRONG_SIZES = (0, 6, 7, 25, -1, -2, -5, LOWEST, LOWEST + 1, HIGHEST - 1, HIGHEST)
 WRONG_NUMBERS = (-1001, 1001, LOWEST, HIGHEST)
+
+# Of which numbers the document asks short points, for each n.
+BOUNDS = {1: 1000, 2: 1000, 3: 30, 4: 9, 5: 3}
+
+# Rows of 1 and -1 whose determinant is as great as it can be.
+SIGNS = {
+    1: [1],
+    2: [1, 1, 1, -1],
+    3: [1, 1, 1, 1, -1, 1, 1, 1, -1],
+    4: [1, 1, 1, 1, 1, -1, 1, -1, 1, 1, -1, -1, 1, -1, -1, 1],
+    5: [-1, 1, 1, 1, 1,
+        1, -1, 1, 1, 1,
+        1, 1, -1, 1, 1,
+        1, 1, 1, -1, 1,
+        1, 1, 1, 1, -1],
+}
 
 
 class GuardedList(list):
@@ -16,6 +34,54 @@ class GuardedList(list):
 
     __setitem__ = __delitem__ = __iadd__ = __imul__ = refuse
     append = extend = insert = remove = pop = clear = sort = reverse = refuse
+
+
+class RowsCallTests:
+    """What holds of each call that is handed n and rows b and refuses a determinant of 0."""
+
+    def test_size_out_of_bounds(self):
+        for n in WRONG_SIZES:
+            self.assertEqual(self.call(n, []), [-2])
+
+    def test_determinant_of_zero(self):
+        for n in range(1, 6):
+            self.assertEqual(self.call(n, [0] * (n * n)), [-3])
+            flat = joined(rows_of(n, identity(n))[:-1] + [[0] * n])
+            self.assertEqual(self.call(n, flat), [-3])
+            self.assertEqual(self.call(n, flat[n:] + flat[:n]), [-3])
+        self.assertEqual(self.call(2, [1, 2, 2, 4]), [-3])
+        self.assertEqual(self.call(2, [1000, 1000, 1000, 1000]), [-3])
+        self.assertEqual(self.call(3, [1, 2, 3, 4, 5, 6, 7, 8, 9]), [-3])
+        self.assertEqual(self.call(5, [1000] * 25), [-3])
+
+    def test_number_out_of_bounds_at_each_place(self):
+        for n in range(1, 6):
+            for place in range(n * n):
+                for number in WRONG_NUMBERS:
+                    numbers = identity(n)
+                    numbers[place] = number
+                    self.assertEqual(self.call(n, numbers), [-3])
+
+    def test_the_list_stays_as_it_was(self):
+        for n, bound in BOUNDS.items():
+            for numbers in (mixed_numbers(n * n, 4, bound), mixed_numbers(n * n, 6, 1),
+                            identity(n), [0] * (n * n), [1001] * (n * n)):
+                guarded = GuardedList(numbers)
+                self.call(n, guarded)
+                self.assertEqual(list(guarded), numbers)
+
+    def test_the_same_call_twice(self):
+        for n, bound in BOUNDS.items():
+            calls = [(n, mixed_numbers(n * n, 5, bound)), (n, identity(n)),
+                     (n, [0] * (n * n)), (0, [])]
+            told = [self.call(size, rows) for size, rows in calls]
+            kept = [list(answer) for answer in told]
+            for answer in told:
+                # What was given back is the caller's own: no later call sees it.
+                answer.append(5)
+            self.assertEqual([self.call(size, rows) for size, rows in calls], kept)
+            self.assertEqual(kept[2:], [[-3], [-2]])
+            self.assertNotIn([-3], kept[:2])
 
 
 def sign_of(order):
@@ -67,6 +133,42 @@ def scaled(n, factors):
             for place in range(n) for column in range(n)]
 
 
+def told_otherwise(n, numbers, seed):
+    """Other rows of the same grid: rows added to rows, turned round and moved."""
+    rows = rows_of(n, numbers)
+    times = mixed_numbers(n * n, seed, 2)
+    for place in range(n):
+        for other in range(n):
+            if other != place:
+                rows[place] = [x + times[place * n + other] * y
+                               for x, y in zip(rows[place], rows[other])]
+    rows[0] = [-x for x in rows[0]]
+    return joined(rows[1:] + rows[:1])
+
+
+def added_up(n, numbers):
+    """Other rows of the same grid, not much longer: rows added and taken away."""
+    rows = rows_of(n, numbers)
+    for place in range(1, n):
+        rows[place] = [x + y for x, y in zip(rows[place], rows[place - 1])]
+    for place in range(2, n):
+        rows[place] = [x - y for x, y in zip(rows[place], rows[place - 2])]
+    return joined(reversed(rows))
+
+
+def pairs_of_one_grid():
+    """For n from 2 on, short rows and longer ones of the same grid."""
+    pairs = []
+    for n in range(2, 6):
+        for seed in range(60):
+            numbers = mixed_numbers(n * n, seed, 1)
+            for others in (told_otherwise(n, numbers, seed + 1), added_up(n, numbers)):
+                longest = max(abs(x) for x in others)
+                if longest <= BOUNDS[n] and det_by_orders(n, numbers) != 0:
+                    pairs.append((n, numbers, others))
+    return pairs
+
+
 def stair_rows(n, numbers):
     """The one set of rows of the same grid that stands for all others.
 
@@ -88,3 +190,84 @@ def stair_rows(n, numbers):
             times = rows[at][place] // rows[place][place]
             rows[at] = [x - times * y for x, y in zip(rows[at], rows[place])]
     return rows
+
+
+def square_of(point):
+    return sum(x * x for x in point)
+
+
+def points_up_to(n, numbers, bound):
+    """All points of the grid with squares up to bound, by the stair rows."""
+    points = [[0] * n]
+    for place, stair in enumerate(stair_rows(n, numbers)):
+        further = []
+        for point in points:
+            room = isqrt(bound - square_of(point[:place]))
+            least = -((room + point[place]) // stair[place])
+            most = (room - point[place]) // stair[place]
+            for times in range(least, most + 1):
+                further.append([x + times * y for x, y in zip(point, stair)])
+        points = further
+    return points
+
+
+def points_in_box(n, numbers, width):
+    """All points of the grid whose numbers are from -width to width.
+
+    Each row of such numbers is tried, by the determinants with it in the place
+    of one of the rows.
+    """
+    whole = det_by_orders(n, numbers)
+    points = []
+    for point in product(range(-width, width + 1), repeat=n):
+        parts = [det_by_orders(n, numbers[:n * place] + list(point)
+                               + numbers[n * (place + 1):])
+                 for place in range(n)]
+        if all(part % whole == 0 for part in parts):
+            points.append(list(point))
+    return points
+
+
+def first_short(points):
+    """The answer of short, if all points of the least square are among these."""
+    told = []
+    for point in points:
+        ahead = [x for x in point if x != 0]
+        if ahead and ahead[0] > 0:
+            told.append([square_of(point)] + point)
+    return sorted(told)[0]
+
+
+def rest_of(point, kept):
+    """What is left of the point when its part along the kept rows is taken away."""
+    rest = [Fraction(x) for x in point]
+    for column, row in kept:
+        times = rest[column] / row[column]
+        rest = [x - times * y for x, y in zip(rest, row)]
+    return rest
+
+
+def squares_of_free(points):
+    """The squares of the shortest points that are free of one another."""
+    squares = []
+    kept = []
+    for point in sorted(points, key=square_of):
+        rest = rest_of(point, kept)
+        if any(rest):
+            column = [x != 0 for x in rest].index(True)
+            kept.append((column, rest))
+            squares.append(square_of(point))
+    return squares
+
+
+def two_short(numbers):
+    """Two rows of the same grid of which none is made shorter by the other."""
+    one, other = rows_of(2, numbers)
+    while True:
+        if square_of(one) > square_of(other):
+            one, other = other, one
+        along = sum(x * y for x, y in zip(one, other))
+        times = round(Fraction(along, square_of(one)))
+        if times == 0:
+            return one, other
+        other = [y - times * x for x, y in zip(one, other)]

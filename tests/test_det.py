@@ -4,16 +4,9 @@ import unittest
 
 from gridsteps.desk import det
 from tests.helper import (
-    WRONG_NUMBERS, WRONG_SIZES, GuardedList, det_by_orders, identity,
+    SIGNS, WRONG_NUMBERS, WRONG_SIZES, GuardedList, det_by_orders, identity,
     mixed_numbers, scaled,
 )
-
-EIGHTS = [1, 1, 1, 1, 1, -1, 1, -1, 1, 1, -1, -1, 1, -1, -1, 1]
-FIVES = [1, 1, 1, 1, 1,
-         1, -1, 1, -1, 1,
-         1, 1, -1, -1, 1,
-         1, -1, -1, 1, 1,
-         1, 1, 1, 1, -1]
 
 
 class DetAnswers(unittest.TestCase):
@@ -59,8 +52,8 @@ class DetAnswers(unittest.TestCase):
     def test_bounds_are_answered(self):
         self.assertEqual(det(2, [1000, 1000, -1000, 1000]), [0, 2000000])
         self.assertEqual(det(2, [-1000, 1000, 1000, 1000]), [0, -2000000])
-        self.assertEqual(det(4, [1000 * x for x in EIGHTS]), [0, 16 * 1000 ** 4])
-        self.assertEqual(det(5, [1000 * x for x in FIVES]), [0, -32 * 1000 ** 5])
+        self.assertEqual(det(4, [1000 * x for x in SIGNS[4]]), [0, 16 * 1000 ** 4])
+        self.assertEqual(det(5, [1000 * x for x in SIGNS[5]]), [0, 48 * 1000 ** 5])
         self.assertEqual(det(5, scaled(5, [1000] * 5)), [0, 1000 ** 5])
         self.assertEqual(det(5, scaled(5, [-1000] * 5)), [0, -1000 ** 5])
 

@@ -5,21 +5,8 @@ import unittest
 from gridsteps.desk import same
 from tests.helper import (
     WRONG_NUMBERS, WRONG_SIZES, GuardedList, det_by_orders, identity, joined,
-    mixed_numbers, rows_of, scaled, stair_rows,
+    mixed_numbers, rows_of, scaled, stair_rows, told_otherwise,
 )
-
-
-def told_otherwise(n, numbers, seed):
-    """Other rows of the same grid: rows added to rows, turned round and moved."""
-    rows = rows_of(n, numbers)
-    times = mixed_numbers(n * n, seed, 2)
-    for place in range(n):
-        for other in range(n):
-            if other != place:
-                rows[place] = [x + times[place * n + other] * y
-                               for x, y in zip(rows[place], rows[other])]
-    rows[0] = [-x for x in rows[0]]
-    return joined(rows[1:] + rows[:1])
 
 
 def with_row_times(n, numbers, place, factor):
