@@ -1,7 +1,8 @@
 """The calls: what each of them refuses, and what it answers."""
 
 from gridsteps.matrix import (
-    determinant, free_squares, lies_within, short_points, split_rows, square, upright,
+    determinant, free_squares, is_reduced, lies_within, reduced, short_points,
+    split_rows, square, upright,
 )
 
 LARGEST_SIZE = 5
@@ -66,3 +67,22 @@ def minima(n, b):
     if refused != 0:
         return [refused]
     return [0] + free_squares(short_points(split_rows(n, b)))
+
+
+def reduce(n, b):
+    """0 and the rows b reduced, or a refusal."""
+    refused = grid_refusal(n, [b])
+    if refused != 0:
+        return [refused]
+    answer = [0]
+    for row in reduced(split_rows(n, b)):
+        answer.extend(row)
+    return answer
+
+
+def test(n, b):
+    """1 if the rows b are reduced, 0 if not, or a refusal."""
+    refused = grid_refusal(n, [b])
+    if refused != 0:
+        return [refused]
+    return [1 if is_reduced(split_rows(n, b)) else 0]

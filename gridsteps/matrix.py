@@ -109,6 +109,18 @@ def in_order(table, place):
     return 3 * leading(table, place) ** 2 <= 4 * (space + slant ** 2)
 
 
+def is_reduced(rows):
+    """True if the rows are reduced."""
+    table = ladder(rows)
+    for place in range(1, len(rows)):
+        if not in_order(table, place):
+            return False
+        for lower in range(place):
+            if abs(2 * table[place][lower]) > leading(table, lower + 1):
+                return False
+    return True
+
+
 def reduced(rows):
     """Other rows of the same grid, reduced as the document tells."""
     done = list(rows)

@@ -2,7 +2,7 @@
 
 from fractions import Fraction
 from itertools import permutations, product
-from math import isqrt
+from math import floor, isqrt
 
 LOWEST = -2147483648
 HIGHEST = 2147483647
@@ -11,6 +11,7 @@ WRONG_NUMBERS = (-1001, 1001, LOWEST, HIGHEST)
 
 # Of which numbers the document asks short points, for each n.
 BOUNDS = {1: 1000, 2: 1000, 3: 30, 4: 9, 5: 3}
+WIDEST = {1: 1000, 2: 1000, 3: 1000, 4: 1000, 5: 1000}
 
 # Rows of 1 and -1 whose determinant is as great as it can be.
 SIGNS = {
@@ -39,6 +40,8 @@ class GuardedList(list):
 class RowsCallTests:
     """What holds of each call that is handed n and rows b and refuses a determinant of 0."""
 
+    bounds = BOUNDS
+
     def test_size_out_of_bounds(self):
         for n in WRONG_SIZES:
             self.assertEqual(self.call(n, []), [-2])
@@ -63,7 +66,7 @@ class RowsCallTests:
                     self.assertEqual(self.call(n, numbers), [-3])
 
     def test_the_list_stays_as_it_was(self):
-        for n, bound in BOUNDS.items():
+        for n, bound in self.bounds.items():
             for numbers in (mixed_numbers(n * n, 4, bound), mixed_numbers(n * n, 6, 1),
                             identity(n), [0] * (n * n), [1001] * (n * n)):
                 guarded = GuardedList(numbers)
@@ -71,7 +74,7 @@ class RowsCallTests:
                 self.assertEqual(list(guarded), numbers)
 
     def test_the_same_call_twice(self):
-        for n, bound in BOUNDS.items():
+        for n, bound in self.bounds.items():
             calls = [(n, mixed_numbers(n * n, 5, bound)), (n, identity(n)),
                      (n, [0] * (n * n)), (0, [])]
             told = [self.call(size, rows) for size, rows in calls]
@@ -258,6 +261,74 @@ def squares_of_free(points):
             kept.append((column, rest))
             squares.append(square_of(point))
     return squares
+
+
+def product_of(row, other):
+    return sum(x * y for x, y in zip(row, other))
+
+
+def ladder_number(rows, high, low):
+    """L(high, low), by the determinant that the document tells."""
+    columns = list(range(low)) + [high]
+    pairs = [[product_of(rows[a], rows[c]) for c in columns] for a in range(low + 1)]
+    return det_by_orders(low + 1, joined(pairs))
+
+
+def reduced_by_determinants(n, numbers):
+    """1 if the rows are reduced, else 0, by the document's words in whole numbers."""
+    rows = rows_of(n, numbers)
+    heads = [1] + [ladder_number(rows, place, place) for place in range(n)]
+    for high in range(1, n):
+        for low in range(high):
+            number = 2 * ladder_number(rows, high, low)
+            if not -heads[low + 1] <= number <= heads[low + 1]:
+                return 0
+        last = ladder_number(rows, high, high - 1)
+        if not 3 * heads[high] ** 2 <= 4 * (heads[high + 1] * heads[high - 1] + last ** 2):
+            return 0
+    return 1
+
+
+def rests_of(rows):
+    """Each row less its parts along the rows ahead of it."""
+    rests = []
+    for row in rows:
+        rest = [Fraction(x) for x in row]
+        for other in rests:
+            times = product_of(row, other) / square_of(other)
+            rest = [x - times * y for x, y in zip(rest, other)]
+        rests.append(rest)
+    return rests
+
+
+def reduced_by_fractions(n, numbers):
+    """The rows that reducing comes to, and at which k rows changed places."""
+    rows = rows_of(n, numbers)
+    changed = []
+    place = 1
+    while place < n:
+        rests = rests_of(rows[:place])
+        for low in range(place - 1, -1, -1):
+            along = product_of(rows[place], rests[low]) / square_of(rests[low])
+            times = floor(along + Fraction(1, 2))
+            rows[place] = [x - times * y for x, y in zip(rows[place], rows[low])]
+        rest = rests_of(rows[:place + 1])[place]
+        along = product_of(rows[place], rests[place - 1]) / square_of(rests[place - 1])
+        least = (Fraction(3, 4) - along ** 2) * square_of(rests[place - 1])
+        if square_of(rest) >= least:
+            place += 1
+        else:
+            changed.append(place)
+            rows[place - 1:place + 1] = [rows[place], rows[place - 1]]
+            place = max(place - 1, 1)
+    return joined(rows), changed
+
+
+def nearly_along(n, seed, spread):
+    """Rows near 1000 or -1000 that lie nearly along one another."""
+    signs = [1 if x >= 0 else -1 for x in mixed_numbers(n, seed, 1000)]
+    less = mixed_numbers(n * n, seed + 1, spread)
+    return [signs[at % n] * (1000 - spread + less[at]) for at in range(n * n)]
 
 
 def two_short(numbers):

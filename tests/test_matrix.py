@@ -5,8 +5,8 @@ from math import isqrt
 
 from gridsteps.matrix import free_squares, ladder, reduced, root, short_points
 from tests.helper import (
-    det_by_orders, joined, mixed_numbers, points_up_to, rows_of, square_of,
-    squares_of_free,
+    det_by_orders, joined, ladder_number, mixed_numbers, points_up_to, rows_of,
+    square_of, squares_of_free,
 )
 
 
@@ -31,9 +31,7 @@ class Ladder(unittest.TestCase):
             table = ladder(rows)
             for low in range(n):
                 for high in range(low, n):
-                    pairs = [[sum(x * y for x, y in zip(rows[a], rows[c]))
-                              for c in list(range(low)) + [high]] for a in range(low + 1)]
-                    self.assertEqual(table[high][low], det_by_orders(low + 1, joined(pairs)))
+                    self.assertEqual(table[high][low], ladder_number(rows, high, low))
 
 
 class ShortPoints(unittest.TestCase):
