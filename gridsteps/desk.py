@@ -1,12 +1,13 @@
 """The calls: what each of them refuses, and what it answers."""
 
 from gridsteps.matrix import (
-    determinant, free_squares, is_reduced, lies_within, reduced, short_points,
-    split_rows, square, upright,
+    determinant, first_shortest, free_squares, gaps, is_reduced, lies_within, plus,
+    points_up_to, reduced, short_points, split_rows, square, upright,
 )
 
 LARGEST_SIZE = 5
 LARGEST_NUMBER = 1000
+LARGEST_SQUARE = 400
 WRONG_SIZE = -2
 WRONG_ROWS = -3
 
@@ -58,7 +59,8 @@ def short(n, b):
     if refused != 0:
         return [refused]
     points = [upright(point) for point in short_points(split_rows(n, b))]
-    return min([[square(point)] + point for point in points])
+    point = first_shortest(points)
+    return [square(point)] + point
 
 
 def minima(n, b):
@@ -86,3 +88,22 @@ def test(n, b):
     if refused != 0:
         return [refused]
     return [1 if is_reduced(split_rows(n, b)) else 0]
+
+
+def near(n, b, t):
+    """The least square of a point less t, and the first such point, or a refusal."""
+    refused = refusal(n, [t]) or grid_refusal(n, [b])
+    if refused != 0:
+        return [refused]
+    gap = first_shortest(gaps(split_rows(n, b), t))
+    return [square(gap)] + plus(gap, 1, t)
+
+
+def count(n, r, b):
+    """0 and how many points have squares up to r, or a refusal."""
+    if r < 0 or r > LARGEST_SQUARE:
+        return [WRONG_SIZE]
+    refused = grid_refusal(n, [b])
+    if refused != 0:
+        return [refused]
+    return [0, len(points_up_to(split_rows(n, b), r))]

@@ -213,3 +213,24 @@ def free_squares(points):
 def upright(point):
     """The point, or it times -1: that of the two whose first number other than 0 is above 0."""
     return point if point > [0 for x in point] else [-x for x in point]
+
+
+def first_shortest(points):
+    """Of the points whose square is least, the first."""
+    return min(points, key=lambda point: [square(point)] + point)
+
+
+def points_up_to(rows, bound):
+    """All points of the grid whose squares are up to bound."""
+    done = reduced(rows)
+    return points_about(done, ladder(done), [0 for row in done], bound)
+
+
+def gaps(rows, target):
+    """Points of the grid less the target: all of the least square are among them."""
+    done = reduced(rows)
+    start = [-x for x in target]
+    # What's left of the start once rows are taken from it is such a point itself,
+    # and of reduced rows a short one: few others are as short.
+    bound = square(lessened(done + [start], len(done)))
+    return points_about(done, ladder(done), start, bound)

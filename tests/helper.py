@@ -26,6 +26,16 @@ SIGNS = {
         1, 1, 1, 1, -1],
 }
 
+# Rows, long ones but for n of 1, whose grid is all rows of whole numbers.
+WHOLE = {
+    1: [-1],
+    2: [1000, 999, 999, 998],
+    3: [-27, 27, -17, 23, -30, 25, 23, -28, 22],
+    4: [-7, -9, -7, 6, 8, 7, 6, -8, 9, 6, 5, -9, -8, -9, -7, 7],
+    5: [3, -1, 3, 3, 1, -2, 3, -2, -3, 1, 2, -2, 3, 3, -1,
+        -2, -3, -2, -2, -3, -3, -1, -2, -3, -3],
+}
+
 
 class GuardedList(list):
     """A list that fails the test at any change, also one that's taken back."""
@@ -136,6 +146,36 @@ def scaled(n, factors):
             for place in range(n) for column in range(n)]
 
 
+def rows_at_bounds(n):
+    """Rows whose numbers are at their bounds for n, of some of them a determinant of 0."""
+    bound = BOUNDS[n]
+    kinds = [scaled(n, [bound] * n), scaled(n, [-bound] * n),
+             [bound * x for x in SIGNS[n]],
+             scaled(n, [1] * n)[:n * n - n] + [bound] * n,
+             scaled(n, [bound] * n)[:n * n - n] + [-1] * n]
+    for seed in range(12):
+        signs = mixed_numbers(n * n, seed, 1)
+        kinds.append([bound if sign > 0 else -bound for sign in signs])
+    return kinds
+
+
+def rows_of_all_lengths(n):
+    """Rows of grids that are short along some rows, and long along others."""
+    kinds = []
+    for seed in range(40):
+        factors = [1 + x % BOUNDS[n] for x in mixed_numbers(n, seed, 1000)]
+        rows = rows_of(n, mixed_numbers(n * n, seed, 1))
+        kinds.append(joined([[times * x for x in row] for times, row in zip(factors, rows)]))
+    return kinds
+
+
+def even_rows(n):
+    """Rows of the grid of all points whose numbers come to an even sum."""
+    rows = [[1 if at == place else -1 if at == place + 1 else 0 for at in range(n)]
+            for place in range(n - 1)]
+    return joined(rows) + [0] * (n - 2) + [1, 1]
+
+
 def told_otherwise(n, numbers, seed):
     """Other rows of the same grid: rows added to rows, turned round and moved."""
     rows = rows_of(n, numbers)
@@ -199,9 +239,12 @@ def square_of(point):
     return sum(x * x for x in point)
 
 
-def points_up_to(n, numbers, bound):
-    """All points of the grid with squares up to bound, by the stair rows."""
-    points = [[0] * n]
+def points_up_to(n, numbers, bound, centre=None):
+    """All points of the grid whose squares are up to bound, by the stair rows.
+
+    Where a centre is told, of the points less it the squares are.
+    """
+    points = [[-x for x in centre or [0] * n]]
     for place, stair in enumerate(stair_rows(n, numbers)):
         further = []
         for point in points:
@@ -211,7 +254,7 @@ def points_up_to(n, numbers, bound):
             for times in range(least, most + 1):
                 further.append([x + times * y for x, y in zip(point, stair)])
         points = further
-    return points
+    return [[x + y for x, y in zip(point, centre or [0] * n)] for point in points]
 
 
 def points_in_box(n, numbers, width):
@@ -239,6 +282,26 @@ def first_short(points):
         if ahead and ahead[0] > 0:
             told.append([square_of(point)] + point)
     return sorted(told)[0]
+
+
+def square_between(point, other):
+    return sum((x - y) ** 2 for x, y in zip(point, other))
+
+
+def first_near(points, target):
+    """The answer of near, if all nearest points are among these."""
+    return min([square_between(point, target)] + point for point in points)
+
+
+def near_otherwise(n, numbers, target):
+    """The answer of near, by all points that are no farther off than a near one."""
+    rows = rows_of(n, reduced_by_fractions(n, numbers)[0])
+    rests = rests_of(rows)
+    left = list(target)
+    for row, rest in reversed(list(zip(rows, rests))):
+        times = round(product_of(left, rest) / square_of(rest))
+        left = [x - times * y for x, y in zip(left, row)]
+    return first_near(points_up_to(n, numbers, square_of(left), target), target)
 
 
 def rest_of(point, kept):

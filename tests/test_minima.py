@@ -4,9 +4,9 @@ import unittest
 
 from gridsteps.desk import minima, short
 from tests.helper import (
-    BOUNDS, SIGNS, RowsCallTests, det_by_orders, identity, joined, mixed_numbers,
-    pairs_of_one_grid, points_in_box, points_up_to, rows_of, scaled, square_of,
-    squares_of_free, two_short,
+    BOUNDS, SIGNS, RowsCallTests, det_by_orders, identity, mixed_numbers,
+    pairs_of_one_grid, points_in_box, points_up_to, rows_at_bounds, rows_of,
+    rows_of_all_lengths, scaled, square_of, squares_of_free, two_short,
 )
 
 
@@ -131,15 +131,9 @@ class MinimaAnswers(unittest.TestCase):
                 asked += self.asked_of_all_points(n, mixed_numbers(n * n, seed + 500, bound))
             self.assertGreater(asked, 50)
 
-    def test_rows_made_longer_one_by_one(self):
-        # Grids that are short along some rows, and long along others.
+    def test_long_and_short_rows_in_one(self):
         for n in range(2, 6):
-            asked = 0
-            for seed in range(40):
-                factors = [1 + x % BOUNDS[n] for x in mixed_numbers(n, seed, 1000)]
-                rows = rows_of(n, mixed_numbers(n * n, seed, 1))
-                longer = [[times * x for x in row] for times, row in zip(factors, rows)]
-                asked += self.asked_of_all_points(n, joined(longer))
+            asked = sum(self.asked_of_all_points(n, b) for b in rows_of_all_lengths(n))
             self.assertGreater(asked, 15)
 
     def test_other_rows_of_the_same_grid(self):
@@ -169,16 +163,14 @@ class MinimaAnswers(unittest.TestCase):
         self.assertEqual(minima(4, [9 * x for x in SIGNS[4]]), [0, 324, 324, 324, 324])
         self.assertEqual(minima(5, [3 * x for x in SIGNS[5]]), [0, 45, 45, 45, 45, 45])
 
-    def test_bounds_at_every_place(self):
+    def test_rows_at_their_bounds(self):
         for n, bound in BOUNDS.items():
-            for seed in range(12):
-                signs = mixed_numbers(n * n, seed, 1)
-                numbers = [bound if sign > 0 else -bound for sign in signs]
-                if det_by_orders(n, numbers) == 0:
-                    self.assertEqual(minima(n, numbers), [-3])
+            for b in rows_at_bounds(n):
+                if det_by_orders(n, b) == 0:
+                    self.assertEqual(minima(n, b), [-3])
                 else:
-                    points = points_up_to(n, numbers, n * bound * bound)
-                    self.assertEqual(minima(n, numbers), [0] + squares_of_free(points))
+                    points = points_up_to(n, b, n * bound * bound)
+                    self.assertEqual(minima(n, b), [0] + squares_of_free(points))
 
 
 class MinimaRefusalsAndManners(RowsCallTests, unittest.TestCase):

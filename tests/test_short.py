@@ -4,17 +4,10 @@ import unittest
 
 from gridsteps.desk import short
 from tests.helper import (
-    BOUNDS, SIGNS, RowsCallTests, det_by_orders, first_short, identity, joined,
-    mixed_numbers, pairs_of_one_grid, points_in_box, points_up_to, rows_of, scaled,
-    square_of, two_short,
+    BOUNDS, SIGNS, RowsCallTests, det_by_orders, even_rows, first_short, identity,
+    mixed_numbers, pairs_of_one_grid, points_in_box, points_up_to, rows_at_bounds,
+    rows_of, scaled, square_of, two_short,
 )
-
-
-def even_rows(n):
-    """Rows of the grid of all points whose numbers come to an even sum."""
-    rows = [[1 if at == place else -1 if at == place + 1 else 0 for at in range(n)]
-            for place in range(n - 1)]
-    return joined(rows) + [0] * (n - 2) + [1, 1]
 
 
 class ShortAnswers(unittest.TestCase):
@@ -137,16 +130,14 @@ class ShortAnswers(unittest.TestCase):
         self.assertEqual(short(4, [9 * x for x in SIGNS[4]]), [324, 9, -9, -9, 9])
         self.assertEqual(short(5, [3 * x for x in SIGNS[5]]), [45, 3, -3, -3, -3, -3])
 
-    def test_bounds_at_every_place(self):
+    def test_rows_at_their_bounds(self):
         for n, bound in BOUNDS.items():
-            for seed in range(12):
-                signs = mixed_numbers(n * n, seed, 1)
-                numbers = [bound if sign > 0 else -bound for sign in signs]
-                if det_by_orders(n, numbers) == 0:
-                    self.assertEqual(short(n, numbers), [-3])
+            for b in rows_at_bounds(n):
+                if det_by_orders(n, b) == 0:
+                    self.assertEqual(short(n, b), [-3])
                 else:
-                    points = points_up_to(n, numbers, n * bound * bound)
-                    self.assertEqual(short(n, numbers), first_short(points))
+                    points = points_up_to(n, b, n * bound * bound)
+                    self.assertEqual(short(n, b), first_short(points))
 
 
 class ShortRefusalsAndManners(RowsCallTests, unittest.TestCase):
